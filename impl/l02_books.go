@@ -1,6 +1,9 @@
 package impl
 
-import "slices"
+import (
+	"iter"
+	"slices"
+)
 
 const MaxBook = 20
 
@@ -65,6 +68,23 @@ func (b openBook) side(side int64) *sortedList[*Order] {
 		return b.bids
 	}
 	return b.asks
+}
+
+// met yields the orders of the opposite side, from the first one on, that an
+// order of the side with the limit meets.
+func (b openBook) met(side int64, limit int64) iter.Seq[*Order] {
+	return func(yield func(o *Order) bool) {
+		for _, o := range b.side(opposite(side)).items {
+			if !meets(side, limit, o.Price) || !yield(o) {
+				return
+			}
+		}
+	}
+}
+
+func (b openBook) drop(gone func(o *Order) bool) {
+	b.bids.items = slices.DeleteFunc(b.bids.items, gone)
+	b.asks.items = slices.DeleteFunc(b.asks.items, gone)
 }
 
 func (b openBook) closed() Book {
@@ -165,6 +185,11 @@ func Find(b Book, id int64) (int64, Order, bool) {
 	return 0, Order{}, false
 }
 
+func hasOrder(b Book, id int64) bool {
+	_, _, ok := Find(b, id)
+	return ok
+}
+
 func Rested(b Book, side int64, o Order) (Book, bool) {
 	if !BookOk(b) || !sideOk(side) || !orderOk(o) {
 		return Book{}, false
@@ -179,13 +204,11 @@ func Rested(b Book, side int64, o Order) (Book, bool) {
 }
 
 func Taken(b Book, id int64) (Book, bool) {
-	side, _, ok := Find(b, id)
-	if !ok {
+	if !hasOrder(b, id) {
 		return Book{}, false
 	}
 	open := opened(b)
-	list := open.side(side)
-	list.items = slices.DeleteFunc(list.items, func(o *Order) bool { return o.Id == id })
+	open.drop(func(o *Order) bool { return o.Id == id })
 	return open.closed(), true
 }
 
@@ -198,15 +221,12 @@ func Best(b Book, side int64) (int64, bool) {
 }
 
 func Crossing(b Book, side int64, price int64) []Order {
-	if !sideOk(side) || !within(price, 0, MaxPrice) {
+	if !BookOk(b) || !sideOk(side) || !within(price, 0, MaxPrice) {
 		return nil
 	}
 	var met []Order
-	for _, o := range Side(b, opposite(side)) {
-		if !meets(side, price, o.Price) {
-			break
-		}
-		met = append(met, o)
+	for o := range opened(b).met(side, price) {
+		met = append(met, *o)
 	}
 	return met
 }

@@ -442,11 +442,6 @@ func TestCrossingRejectsPrices(t *testing.T) {
 	}
 }
 
-// wipe overwrites a list and the memory behind it.
-func wipe(l []impl.Order) {
-	clear(l[:cap(l)])
-}
-
 // useBook calls every function of the chapter and overwrites the lists that it gets.
 func useBook(b impl.Book) {
 	impl.BookOk(b)
@@ -469,39 +464,26 @@ func useBook(b impl.Book) {
 }
 
 func TestBooksAreNotChanged(t *testing.T) {
-	behind := order(700, 100)
 	for _, books := range []map[string]impl.Book{validBooks(), invalidBooks()} {
 		for name, b := range books {
-			x := impl.Book{Bids: roomy(b.Bids, behind), Asks: roomy(b.Asks, behind)}
-			useBook(x)
-			if !sameBook(x, b) {
-				t.Errorf("%s: changed to %v", name, x)
-			}
-			for _, l := range [][]impl.Order{x.Bids, x.Asks} {
-				if l[:cap(l)][len(l)] != behind {
-					t.Errorf("%s: changed behind the list", name)
-				}
-			}
+			wantUntouched(t, name, b, func(b impl.Book) impl.Book {
+				useBook(b)
+				return impl.Book{}
+			})
 		}
 	}
 }
 
 func TestSidesOfAResultShareNothing(t *testing.T) {
 	b := impl.Book{Bids: run(1, 6, 100, -1), Asks: run(11, 6, 101, 1)}
-	rested, _ := impl.Rested(b, impl.SdBuy, order(99, 97))
-	taken, _ := impl.Taken(b, 3)
-	for _, n := range []impl.Book{rested, taken} {
-		want := copyBook(n)
-		wipe(n.Bids)
-		if !slices.Equal(n.Asks, want.Asks) {
-			t.Errorf("the asks changed with the bids: %v, want %v", n.Asks, want.Asks)
-		}
-		copy(n.Bids, want.Bids)
-		wipe(n.Asks)
-		if !slices.Equal(n.Bids, want.Bids) {
-			t.Errorf("the bids changed with the asks: %v, want %v", n.Bids, want.Bids)
-		}
-	}
+	wantUntouched(t, "Rested", b, func(b impl.Book) impl.Book {
+		n, _ := impl.Rested(b, impl.SdBuy, order(99, 97))
+		return n
+	})
+	wantUntouched(t, "Taken", b, func(b impl.Book) impl.Book {
+		n, _ := impl.Taken(b, 3)
+		return n
+	})
 }
 
 func TestEqualArgumentsYieldEqualBooks(t *testing.T) {

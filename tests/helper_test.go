@@ -63,3 +63,42 @@ func wantIds(t *testing.T, what string, l []impl.Order, want ...int64) {
 		t.Errorf("%s: orders %v, want %v", what, ids(l), want)
 	}
 }
+
+// wipe overwrites a list and the memory behind it.
+func wipe(l []impl.Order) {
+	clear(l[:cap(l)])
+}
+
+// wantApart overwrites each list of a result in turn, which may change nothing else.
+func wantApart(t *testing.T, what string, n impl.Book, argument impl.Book) {
+	t.Helper()
+	want, before := copyBook(n), copyBook(argument)
+	wipe(n.Bids)
+	if !slices.Equal(n.Asks, want.Asks) {
+		t.Errorf("%s: the asks changed with the bids", what)
+	}
+	copy(n.Bids, want.Bids)
+	wipe(n.Asks)
+	if !slices.Equal(n.Bids, want.Bids) {
+		t.Errorf("%s: the bids changed with the asks", what)
+	}
+	if wipe(n.Bids); !sameBook(argument, before) {
+		t.Errorf("%s: the argument changed with the result", what)
+	}
+}
+
+// wantUntouched performs something with a book that has room behind its lists, and looks at it afterwards.
+func wantUntouched(t *testing.T, what string, b impl.Book, do func(b impl.Book) impl.Book) {
+	t.Helper()
+	behind := order(700, 100)
+	x := impl.Book{Bids: roomy(b.Bids, behind), Asks: roomy(b.Asks, behind)}
+	wantApart(t, what, do(x), x)
+	if !sameBook(x, b) {
+		t.Errorf("%s: %v changed to %v", what, b, x)
+	}
+	for _, l := range [][]impl.Order{x.Bids, x.Asks} {
+		if !slices.Equal(l[len(l):cap(l)], []impl.Order{behind, behind, behind}) {
+			t.Errorf("%s: changed behind the list", what)
+		}
+	}
+}

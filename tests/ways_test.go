@@ -67,12 +67,63 @@ func reachable(t *testing.T) []ast.Node {
 	return out
 }
 
+// isSequence reports whether a type is that of a function to range over: one of package iter, or one with yield.
+func isSequence(e ast.Expr) bool {
+	switch x := e.(type) {
+	case *ast.IndexExpr:
+		return isSequence(x.X)
+	case *ast.IndexListExpr:
+		return isSequence(x.X)
+	case *ast.SelectorExpr:
+		p, ok := x.X.(*ast.Ident)
+		return ok && p.Name == "iter"
+	case *ast.FuncType:
+		return len(x.Params.List) == 1 && len(x.Params.List[0].Names) == 1 && x.Params.List[0].Names[0].Name == "yield"
+	}
+	return false
+}
+
+// sequences returns the names of the functions that return a function to range over.
+func sequences(t *testing.T) map[string]bool {
+	t.Helper()
+	out := map[string]bool{}
+	for name, l := range declared(t) {
+		for _, n := range l {
+			f, ok := n.(*ast.FuncDecl)
+			if ok && f.Type.Results != nil && isSequence(f.Type.Results.List[0].Type) {
+				out[name] = true
+			}
+		}
+	}
+	return out
+}
+
+// calledName returns the name of the called function; that of a package's function with the package's name.
+func calledName(e ast.Expr) string {
+	c, ok := e.(*ast.CallExpr)
+	if !ok {
+		return ""
+	}
+	switch f := c.Fun.(type) {
+	case *ast.Ident:
+		return f.Name
+	case *ast.SelectorExpr:
+		if p, ok := f.X.(*ast.Ident); ok && p.Name == "errors" {
+			return "errors." + f.Sel.Name
+		}
+		return f.Sel.Name
+	}
+	return ""
+}
+
 // noteWay records the language feature that a node is.
-func noteWay(n ast.Node, found map[string]bool) {
+func noteWay(n ast.Node, sequence map[string]bool, found map[string]bool) {
 	switch x := n.(type) {
 	case *ast.CallExpr:
-		if f, ok := x.Fun.(*ast.Ident); ok {
-			found["call of "+f.Name] = true
+		found["call of "+calledName(x)] = true
+	case *ast.RangeStmt:
+		if sequence[calledName(x.X)] {
+			found["range over a function"] = true
 		}
 	case *ast.DeferStmt:
 		_, literal := x.Call.Fun.(*ast.FuncLit)
@@ -86,17 +137,27 @@ func noteWay(n ast.Node, found map[string]bool) {
 	}
 }
 
-func TestWaysOfWiresAndBooks(t *testing.T) {
+func wantWays(t *testing.T, ways ...string) {
+	t.Helper()
 	found := map[string]bool{}
+	sequence := sequences(t)
 	for _, d := range reachable(t) {
 		ast.Inspect(d, func(n ast.Node) bool {
-			noteWay(n, found)
+			noteWay(n, sequence, found)
 			return true
 		})
 	}
-	for _, way := range []string{"call of panic", "call of recover", "deferred function literal", "pointer type", "generic function", "generic type"} {
+	for _, way := range ways {
 		if !found[way] {
 			t.Errorf("what the exported functions reach has no %s", way)
 		}
 	}
+}
+
+func TestWaysOfWiresAndBooks(t *testing.T) {
+	wantWays(t, "call of panic", "call of recover", "deferred function literal", "pointer type", "generic function", "generic type")
+}
+
+func TestWaysOfMatchesAndExecs(t *testing.T) {
+	wantWays(t, "range over a function", "call of errors.Is", "call of errors.As")
 }
