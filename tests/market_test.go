@@ -211,7 +211,7 @@ func randomBook(d *dice, accts int64, most int64) impl.Book {
 	return m.book()
 }
 
-// Mirrored are the same things with buyers and sellers exchanged, and prices that rise where those fall.
+// What is mirrored has buyers and sellers exchanged, and prices that rise where they fell.
 
 func mirroredPrice(p int64) int64 {
 	if p == 0 {
@@ -220,24 +220,24 @@ func mirroredPrice(p int64) int64 {
 	return 1000001 - p
 }
 
-func mirroredOrders(l []impl.Order) []impl.Order {
+func mirroredList[T any](l []T, price func(x *T) *int64) []T {
 	l = slices.Clone(l)
 	for i := range l {
-		l[i].Price = mirroredPrice(l[i].Price)
+		*price(&l[i]) = mirroredPrice(*price(&l[i]))
 	}
 	return l
+}
+
+func mirroredOrders(l []impl.Order) []impl.Order {
+	return mirroredList(l, func(o *impl.Order) *int64 { return &o.Price })
+}
+
+func mirroredRecs(l []impl.Rec) []impl.Rec {
+	return mirroredList(l, func(r *impl.Rec) *int64 { return &r.Price })
 }
 
 func mirroredBook(b impl.Book) impl.Book {
 	return impl.Book{Bids: mirroredOrders(b.Asks), Asks: mirroredOrders(b.Bids)}
-}
-
-func mirroredRecs(l []impl.Rec) []impl.Rec {
-	l = slices.Clone(l)
-	for i := range l {
-		l[i].Price = mirroredPrice(l[i].Price)
-	}
-	return l
 }
 
 func mirroredCmd(c impl.Cmd) impl.Cmd {
