@@ -191,6 +191,15 @@ func RecOk(r Rec) bool {
 		within(r.Qty, 0, MaxQty)
 }
 
+func recsOk(l []Rec) bool {
+	for _, r := range l {
+		if !RecOk(r) {
+			return false
+		}
+	}
+	return true
+}
+
 func RecBytes(r Rec) string {
 	if !RecOk(r) {
 		return ""

@@ -61,6 +61,12 @@ func buy(kind int64, o impl.Order, mode int64) impl.Cmd {
 	return impl.Cmd{Kind: kind, Acct: o.Acct, Id: o.Id, Side: impl.SdBuy, Price: o.Price, Qty: o.Qty, Mode: mode}
 }
 
+func sell(kind int64, o impl.Order, mode int64) impl.Cmd {
+	c := buy(kind, o, mode)
+	c.Side = impl.SdSell
+	return c
+}
+
 func cancel(acct int64, id int64) impl.Cmd {
 	return impl.Cmd{Kind: impl.CkCancel, Acct: acct, Id: id}
 }
@@ -339,11 +345,6 @@ func TestLimitOnAFullSide(t *testing.T) {
 func TestRoomOnAFullSide(t *testing.T) {
 	full := fullBids()
 	first, second, last := full.Bids[0], full.Bids[1], full.Bids[19]
-	sell := func(kind int64, o impl.Order, mode int64) impl.Cmd {
-		c := buy(kind, o, mode)
-		c.Side = impl.SdSell
-		return c
-	}
 	for name, c := range map[string]impl.Cmd{
 		"a fill of the first":           sell(impl.CkIoc, by(90, 98, 100, first.Qty), impl.SpNew),
 		"a fill of more":                sell(impl.CkIoc, by(90, 98, 99, first.Qty+second.Qty-1), impl.SpNew),

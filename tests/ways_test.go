@@ -5,6 +5,7 @@ import (
 	"go/parser"
 	"go/token"
 	"path/filepath"
+	"slices"
 	"testing"
 )
 
@@ -37,10 +38,18 @@ func declared(t *testing.T) map[string][]ast.Node {
 	return out
 }
 
-// reachable returns the declarations that the exported functions reach by the names in them.
-func reachable(t *testing.T) []ast.Node {
-	t.Helper()
-	all := declared(t)
+func exported(all map[string][]ast.Node) []string {
+	var out []string
+	for name := range all {
+		if ast.IsExported(name) {
+			out = append(out, name)
+		}
+	}
+	return out
+}
+
+// reachable returns the declarations that these functions reach by the names in them.
+func reachable(all map[string][]ast.Node, from []string) []ast.Node {
 	seen := map[string]bool{}
 	var out []ast.Node
 	var visit func(name string)
@@ -59,10 +68,8 @@ func reachable(t *testing.T) []ast.Node {
 			})
 		}
 	}
-	for name := range all {
-		if ast.IsExported(name) {
-			visit(name)
-		}
+	for _, name := range from {
+		visit(name)
 	}
 	return out
 }
@@ -84,10 +91,9 @@ func isSequence(e ast.Expr) bool {
 }
 
 // sequences returns the names of the functions that return a function to range over.
-func sequences(t *testing.T) map[string]bool {
-	t.Helper()
+func sequences(all map[string][]ast.Node) map[string]bool {
 	out := map[string]bool{}
-	for name, l := range declared(t) {
+	for name, l := range all {
 		for _, n := range l {
 			f, ok := n.(*ast.FuncDecl)
 			if ok && f.Type.Results != nil && isSequence(f.Type.Results.List[0].Type) {
@@ -130,6 +136,12 @@ func noteWay(n ast.Node, sequence map[string]bool, found map[string]bool) {
 		found["deferred function literal"] = found["deferred function literal"] || literal
 	case *ast.StarExpr:
 		found["pointer type"] = true
+	case *ast.InterfaceType:
+		found["interface type with methods"] = found["interface type with methods"] || hasMethods(x)
+	case *ast.TypeSwitchStmt:
+		found["type switch"] = true
+	case *ast.MapType:
+		found["map"] = true
 	case *ast.FuncDecl:
 		found["generic function"] = found["generic function"] || x.Type.TypeParams != nil
 	case *ast.TypeSpec:
@@ -137,11 +149,23 @@ func noteWay(n ast.Node, sequence map[string]bool, found map[string]bool) {
 	}
 }
 
-func wantWays(t *testing.T, ways ...string) {
+func hasMethods(x *ast.InterfaceType) bool {
+	return slices.ContainsFunc(x.Methods.List, func(f *ast.Field) bool {
+		_, ok := f.Type.(*ast.FuncType)
+		return ok
+	})
+}
+
+// wantWays checks that the code that these functions reach, or all exported ones, has the language features.
+func wantWays(t *testing.T, from []string, ways ...string) {
 	t.Helper()
+	all := declared(t)
+	if from == nil {
+		from = exported(all)
+	}
 	found := map[string]bool{}
-	sequence := sequences(t)
-	for _, d := range reachable(t) {
+	sequence := sequences(all)
+	for _, d := range reachable(all, from) {
 		ast.Inspect(d, func(n ast.Node) bool {
 			noteWay(n, sequence, found)
 			return true
@@ -155,9 +179,16 @@ func wantWays(t *testing.T, ways ...string) {
 }
 
 func TestWaysOfWiresAndBooks(t *testing.T) {
-	wantWays(t, "call of panic", "call of recover", "deferred function literal", "pointer type", "generic function", "generic type")
+	wantWays(t, nil, "call of panic", "call of recover", "deferred function literal", "pointer type", "generic function", "generic type")
 }
 
 func TestWaysOfMatchesAndExecs(t *testing.T) {
-	wantWays(t, "range over a function", "call of errors.Is", "call of errors.As")
+	wantWays(t, nil, "range over a function", "call of errors.Is", "call of errors.As")
+}
+
+func TestWaysOfEnginesAndRules(t *testing.T) {
+	wantWays(t, nil, "interface type with methods", "type switch", "map")
+	wantWays(t, []string{"Step"}, "interface type with methods", "type switch")
+	wantWays(t, []string{"Fold"}, "interface type with methods", "type switch")
+	wantWays(t, []string{"Net"}, "map")
 }
