@@ -142,6 +142,10 @@ func noteWay(n ast.Node, sequence map[string]bool, found map[string]bool) {
 		found["type switch"] = true
 	case *ast.MapType:
 		found["map"] = true
+	case *ast.ChanType:
+		found["channel"] = true
+	case *ast.GoStmt:
+		found["go statement"] = true
 	case *ast.FuncDecl:
 		found["generic function"] = found["generic function"] || x.Type.TypeParams != nil
 	case *ast.TypeSpec:
@@ -191,4 +195,11 @@ func TestWaysOfEnginesAndRules(t *testing.T) {
 	wantWays(t, []string{"Step"}, "interface type with methods", "type switch")
 	wantWays(t, []string{"Fold"}, "interface type with methods", "type switch")
 	wantWays(t, []string{"Net"}, "map")
+}
+
+func TestWaysOfFabrics(t *testing.T) {
+	wantWays(t, nil, "channel", "go statement")
+	for _, name := range []string{"Pick", "PickAll", "Finish"} {
+		wantWays(t, []string{name}, "channel", "go statement")
+	}
 }
