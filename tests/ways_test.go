@@ -146,6 +146,15 @@ func noteWay(n ast.Node, sequence map[string]bool, found map[string]bool) {
 		found["channel"] = true
 	case *ast.GoStmt:
 		found["go statement"] = true
+	case *ast.FuncLit:
+		found["function literal"] = true
+	case *ast.AssignStmt:
+		found["function literal that calls itself"] = found["function literal that calls itself"] || callsItself(x)
+	case *ast.LabeledStmt:
+		found["label"] = true
+		found["labelled loop"] = found["labelled loop"] || isLoop(x.Stmt)
+	case *ast.BranchStmt:
+		found[x.Tok.String()] = true
 	case *ast.FuncDecl:
 		found["generic function"] = found["generic function"] || x.Type.TypeParams != nil
 	case *ast.TypeSpec:
@@ -158,6 +167,30 @@ func hasMethods(x *ast.InterfaceType) bool {
 		_, ok := f.Type.(*ast.FuncType)
 		return ok
 	})
+}
+
+func isLoop(s ast.Stmt) bool {
+	switch s.(type) {
+	case *ast.ForStmt, *ast.RangeStmt:
+		return true
+	}
+	return false
+}
+
+// callsItself reports whether a function literal calls the variable to which it is assigned.
+func callsItself(x *ast.AssignStmt) bool {
+	name, ok := x.Lhs[0].(*ast.Ident)
+	literal, isLiteral := x.Rhs[0].(*ast.FuncLit)
+	calls := false
+	if ok && isLiteral {
+		ast.Inspect(literal, func(n ast.Node) bool {
+			if c, ok := n.(*ast.CallExpr); ok && calledName(c) == name.Name {
+				calls = true
+			}
+			return true
+		})
+	}
+	return calls
 }
 
 // wantWays checks that the code that these functions reach, or all exported ones, has the language features.
@@ -202,4 +235,15 @@ func TestWaysOfFabrics(t *testing.T) {
 	for _, name := range []string{"Pick", "PickAll", "Finish"} {
 		wantWays(t, []string{name}, "channel", "go statement")
 	}
+}
+
+func TestWaysOfAuctionsTradesAndDepths(t *testing.T) {
+	wantWays(t, nil, "function literal", "range over a function", "label", "goto")
+	for _, name := range []string{"AuctionPrice", "Uncrossed"} {
+		wantWays(t, []string{name}, "function literal that calls itself")
+	}
+	wantWays(t, []string{"TradesOf"}, "range over a function")
+	wantWays(t, []string{"Depth"}, "labelled loop")
+	wantWays(t, []string{"DepthDelta"}, "labelled loop")
+	wantWays(t, []string{"DepthApplied"}, "labelled loop", "goto")
 }
