@@ -142,6 +142,12 @@ func noteWay(n ast.Node, sequence map[string]bool, found map[string]bool) {
 		found["type switch"] = true
 	case *ast.MapType:
 		found["map"] = true
+	case *ast.ArrayType:
+		found["array"] = found["array"] || x.Len != nil
+	case *ast.FuncType:
+		noteFunctions(x.Params, found)
+	case *ast.StructType:
+		noteFunctions(x.Fields, found)
 	case *ast.ChanType:
 		found["channel"] = true
 	case *ast.GoStmt:
@@ -159,6 +165,20 @@ func noteWay(n ast.Node, sequence map[string]bool, found map[string]bool) {
 		found["generic function"] = found["generic function"] || x.Type.TypeParams != nil
 	case *ast.TypeSpec:
 		found["generic type"] = found["generic type"] || x.TypeParams != nil
+		noteFunction(x.Type, found)
+	}
+}
+
+// noteFunction records that a parameter, a field or a type is a function; the methods of interfaces are none of these.
+func noteFunction(e ast.Expr, found map[string]bool) {
+	if _, ok := e.(*ast.FuncType); ok {
+		found["function as a parameter, field or type"] = true
+	}
+}
+
+func noteFunctions(l *ast.FieldList, found map[string]bool) {
+	for _, f := range l.List {
+		noteFunction(f.Type, found)
 	}
 }
 
@@ -246,4 +266,15 @@ func TestWaysOfAuctionsTradesAndDepths(t *testing.T) {
 	wantWays(t, []string{"Depth"}, "labelled loop")
 	wantWays(t, []string{"DepthDelta"}, "labelled loop")
 	wantWays(t, []string{"DepthApplied"}, "labelled loop", "goto")
+}
+
+func TestWaysOfDisksAndStores(t *testing.T) {
+	wantWays(t, nil, "interface type with methods", "type switch", "function as a parameter, field or type", "array")
+	for _, name := range []string{"DiskOk", "Do"} {
+		wantWays(t, []string{name}, "interface type with methods")
+	}
+	wantWays(t, []string{"Crash"}, "interface type with methods", "type switch")
+	for _, name := range []string{"StoreDo", "StorePlay"} {
+		wantWays(t, []string{name}, "function as a parameter, field or type", "array")
+	}
 }
