@@ -88,16 +88,21 @@ func CmdOk(c Cmd) bool {
 		return false
 	}
 	inBook := c.Kind <= CkRepl
-	isOrder := c.Kind <= CkPost
-	hasQty := isOrder || c.Kind == CkRepl
+	hasSide := isOrder(c)
+	hasQty := hasSide || c.Kind == CkRepl
 	hasPrice := hasQty && c.Kind != CkMarket
 	return within(c.Acct, 1, MaxAcct) &&
 		fieldOk(inBook, c.Sym, 0, MaxSyms-1) &&
 		fieldOk(inBook, c.Id, 1, MaxId) &&
-		fieldOk(isOrder, c.Side, SdBuy, SdSell) &&
+		fieldOk(hasSide, c.Side, SdBuy, SdSell) &&
 		fieldOk(hasPrice, c.Price, 1, MaxPrice) &&
 		fieldOk(hasQty, c.Qty, 1, MaxQty) &&
 		fieldOk(hasQty, c.Mode, SpNew, SpBoth)
+}
+
+// isOrder reports whether a command whose kind is valid is a new order.
+func isOrder(c Cmd) bool {
+	return c.Kind <= CkPost
 }
 
 // fieldOk checks a field that must be 0 where the kind of the command does not use it.

@@ -278,3 +278,13 @@ func TestWaysOfDisksAndStores(t *testing.T) {
 		wantWays(t, []string{name}, "function as a parameter, field or type", "array")
 	}
 }
+
+func TestWaysOfFieldsAndRisks(t *testing.T) {
+	wantWays(t, nil, "map", "function as a parameter, field or type", "array")
+	for _, name := range []string{"FieldsOf", "CmdOf"} {
+		wantWays(t, []string{name}, "map")
+	}
+	for _, name := range []string{"Allowed", "Guarded"} {
+		wantWays(t, []string{name}, "function as a parameter, field or type", "array")
+	}
+}
