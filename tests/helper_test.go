@@ -34,6 +34,10 @@ func (d *dice) roll(n int64) int64 {
 	return int64(uint64(*d)>>33) % n
 }
 
+func oneOf[T any](d *dice, l []T) T {
+	return l[d.roll(int64(len(l)))]
+}
+
 // roomy returns a list with the same elements, and further ones behind it that nobody may touch.
 func roomy[T any](l []T, behind T) []T {
 	full := make([]T, 0, len(l)+3)

@@ -36,20 +36,32 @@ func copyOfList(l reflect.Value, room int) reflect.Value {
 	return n
 }
 
+func exactList(l reflect.Value) reflect.Value {
+	return copyOfList(l, 0)
+}
+
+// roomyList returns a copy with elements behind it that nobody may touch.
+func roomyList(l reflect.Value) reflect.Value {
+	n := copyOfList(l, 3)
+	for i := range 3 {
+		mark(n.Slice(0, n.Cap()).Index(l.Len() + i))
+	}
+	return n
+}
+
+// wholeList returns a copy of a list and all that is behind it.
+func wholeList(l reflect.Value) reflect.Value {
+	return copyOfList(l.Slice(0, l.Cap()), 0)
+}
+
 // deepCopy returns a value that shares no memory with x.
 func deepCopy[T any](x T) T {
-	return remadeAs(x, func(l reflect.Value) reflect.Value { return copyOfList(l, 0) })
+	return remadeAs(x, exactList)
 }
 
 // withRoom returns a deep copy in which each list has elements behind it that nobody may touch.
 func withRoom[T any](x T) T {
-	return remadeAs(x, func(l reflect.Value) reflect.Value {
-		n := copyOfList(l, 3)
-		for i := range 3 {
-			mark(n.Slice(0, n.Cap()).Index(l.Len() + i))
-		}
-		return n
-	})
+	return remadeAs(x, roomyList)
 }
 
 // mark writes something other than zero into all numbers of a value that are not in a list.
@@ -68,7 +80,7 @@ func mark(v reflect.Value) {
 
 // withAllBehind returns a deep copy with each list as long as the memory that it has.
 func withAllBehind[T any](x T) T {
-	return remadeAs(x, func(l reflect.Value) reflect.Value { return copyOfList(l.Slice(0, l.Cap()), 0) })
+	return remadeAs(x, wholeList)
 }
 
 // A span is the memory of a list.

@@ -213,6 +213,53 @@ func callsItself(x *ast.AssignStmt) bool {
 	return calls
 }
 
+// methodNames returns the names of the methods that are not those of fields too.
+func methodNames(all map[string][]ast.Node) map[string]bool {
+	names := map[string]bool{}
+	for name, l := range all {
+		for _, n := range l {
+			if f, ok := n.(*ast.FuncDecl); ok && f.Recv != nil {
+				names[name] = true
+			}
+		}
+	}
+	for _, l := range all {
+		for _, n := range l {
+			ast.Inspect(n, func(m ast.Node) bool {
+				if x, ok := m.(*ast.StructType); ok {
+					dropFields(names, x)
+				}
+				return true
+			})
+		}
+	}
+	return names
+}
+
+func dropFields(names map[string]bool, x *ast.StructType) {
+	for _, f := range x.Fields.List {
+		for _, id := range f.Names {
+			delete(names, id.Name)
+		}
+	}
+}
+
+// hasMethodValue reports whether a method is selected in a declaration without being called.
+func hasMethodValue(d ast.Node, methods map[string]bool) bool {
+	called := map[ast.Expr]bool{}
+	has := false
+	ast.Inspect(d, func(n ast.Node) bool {
+		switch x := n.(type) {
+		case *ast.CallExpr:
+			called[x.Fun] = true
+		case *ast.SelectorExpr:
+			has = has || methods[x.Sel.Name] && !called[x]
+		}
+		return true
+	})
+	return has
+}
+
 // wantWays checks that the code that these functions reach, or all exported ones, has the language features.
 func wantWays(t *testing.T, from []string, ways ...string) {
 	t.Helper()
@@ -221,8 +268,9 @@ func wantWays(t *testing.T, from []string, ways ...string) {
 		from = exported(all)
 	}
 	found := map[string]bool{}
-	sequence := sequences(all)
+	sequence, methods := sequences(all), methodNames(all)
 	for _, d := range reachable(all, from) {
+		found["method value"] = found["method value"] || hasMethodValue(d, methods)
 		ast.Inspect(d, func(n ast.Node) bool {
 			noteWay(n, sequence, found)
 			return true
@@ -287,4 +335,9 @@ func TestWaysOfFieldsAndRisks(t *testing.T) {
 	for _, name := range []string{"Allowed", "Guarded"} {
 		wantWays(t, []string{name}, "function as a parameter, field or type", "array")
 	}
+}
+
+func TestWaysOfTheScript(t *testing.T) {
+	wantWays(t, nil, "map", "method value")
+	wantWays(t, []string{"RunScript"}, "map", "method value")
 }
