@@ -101,6 +101,10 @@ func TestFokLines(t *testing.T) {
 		fok 0 6 4 2 99 5 1     => no 6
 		fok 0 7 3 2 99 5 1     => no 3
 		fok 0 7 4 2 99 8 1     => ack 4 99 8; fill 4 2 100 4; fill 4 3 99 4
+		limit 0 7 5 1 100 4 1  => ack 5 100 4
+		limit 0 6 6 1 99 4 1   => ack 6 99 4
+		fok 0 7 7 2 99 4 3     => no 6
+		fok 0 7 7 2 99 4 2     => ack 7 99 4; gone 5 4; fill 7 6 99 4
 		block 7                => done 0
 		fok 0 7 5 2 99 8 1     => no 2
 		vwap 0                 => vwap 99
